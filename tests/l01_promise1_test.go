@@ -39,6 +39,14 @@ func finiteResult(x any) bool {
 		return !math.IsNaN(float64(y)) && !math.IsInf(float64(y), 0)
 	case impl.Sizes:
 		return impl.ValidSizes(y)
+	case impl.Air:
+		return impl.ValidAir(y)
+	case [20]float32:
+		for _, number := range y {
+			if !finiteResult(number) {
+				return false
+			}
+		}
 	}
 	return true
 }
