@@ -263,7 +263,7 @@ func TestMixAirErrors(t *testing.T) {
 	}
 }
 
-// The roundings of two parts of a heat can lift their sum above the greatest one.
+// The roundings of two parts of a heat or of vapour can lift their sum above the greatest one.
 func TestMixAirThatWouldNotBeValid(t *testing.T) {
 	lifted := 0
 	for parts := range 1001 {
@@ -285,6 +285,11 @@ func TestMixAirThatWouldNotBeValid(t *testing.T) {
 	wantAir(t, "MixAir of the greatest heat", got, code, impl.Air{}, impl.ErrState)
 	got, code = impl.MixAir(impl.Air{Heat: -60}, impl.Air{Heat: -60}, 0.001)
 	wantAir(t, "MixAir of the least heat", got, code, impl.Air{}, impl.ErrState)
+	share := math.Float32frombits(900735202)
+	got, code = impl.MixAir(impl.Air{Vapour: 1000}, impl.Air{Vapour: 1000}, share)
+	wantAir(t, "MixAir of the most vapour", got, code, impl.Air{}, impl.ErrState)
+	got, code = impl.MixAir(impl.Air{Vapour: 1000}, impl.Air{Vapour: math.Nextafter32(1000, 0)}, share)
+	wantAir(t, "MixAir of nearly the most vapour", got, code, impl.Air{}, impl.ErrState)
 }
 
 func TestDewHeat(t *testing.T) {
