@@ -26,6 +26,8 @@ func bitsText(list []any) string {
 			for _, number := range y {
 				text += impl.NumberText(number) + " "
 			}
+		case impl.Kernel:
+			text += textOf(y)
 		default:
 			text += fmt.Sprint(y) + " "
 		}
@@ -41,6 +43,10 @@ func finiteResult(x any) bool {
 		return impl.ValidSizes(y)
 	case impl.Air:
 		return impl.ValidAir(y)
+	case impl.Kernel:
+		return impl.ValidKernel(y)
+	case impl.Box:
+		return impl.ValidBox(y)
 	case [20]float32:
 		for _, number := range y {
 			if !finiteResult(number) {
