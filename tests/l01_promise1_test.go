@@ -28,6 +28,8 @@ func bitsText(list []any) string {
 			}
 		case impl.Kernel:
 			text += textOf(y)
+		case []impl.Level:
+			text += soundingText(y)
 		default:
 			text += fmt.Sprint(y) + " "
 		}
@@ -45,6 +47,10 @@ func finiteResult(x any) bool {
 		return impl.ValidAir(y)
 	case impl.Kernel:
 		return impl.ValidKernel(y)
+	case impl.Parcel:
+		return impl.ValidParcel(y)
+	case []impl.Level:
+		return y == nil || impl.ValidSounding(y)
 	case impl.Box:
 		return impl.ValidBox(y)
 	case [20]float32:
