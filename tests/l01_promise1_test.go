@@ -4,6 +4,7 @@ import (
 	"fmt"
 	"math"
 	"reflect"
+	"slices"
 	"testing"
 
 	"loop.example/g01224/impl"
@@ -30,6 +31,10 @@ func bitsText(list []any) string {
 			text += textOf(y)
 		case []impl.Level:
 			text += soundingText(y)
+		case complex64:
+			text += pulsesText([]complex64{y})
+		case []complex64:
+			text += pulsesText(y)
 		default:
 			text += fmt.Sprint(y) + " "
 		}
@@ -53,6 +58,14 @@ func finiteResult(x any) bool {
 		return y == nil || impl.ValidSounding(y)
 	case impl.Box:
 		return impl.ValidBox(y)
+	case complex64:
+		return finiteResult(real(y)) && finiteResult(imag(y))
+	case []complex64:
+		return y == nil || impl.PulsesText(y) != ""
+	case []float32:
+		return !slices.ContainsFunc(y, func(number float32) bool { return !finiteResult(number) })
+	case []impl.EchoCell:
+		return impl.ValidEchoMap(y)
 	case [20]float32:
 		for _, number := range y {
 			if !finiteResult(number) {
