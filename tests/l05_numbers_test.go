@@ -182,7 +182,9 @@ func unitModel(turns float32) complex64 {
 	case part > 0.5, part == 0.5 && math.Mod(whole, 2) != 0:
 		whole++
 	}
-	x := wide(0).Mul(wide(6.283185307179586), wide(0).Sub(wide(float64(turns)), wide(whole)))
+	// An integer of the library has no sign where it is 0.
+	integer, _ := wide(whole).Int(nil)
+	x := wide(0).Mul(wide(6.283185307179586), wide(0).Sub(wide(float64(turns)), wide(0).SetInt(integer)))
 	y := wide(0).Mul(x, x)
 	c, s := wide(1), wide(1)
 	for m := 14.0; m > 0; m-- {
@@ -206,8 +208,11 @@ func TestUnitAt(t *testing.T) {
 	for _, turns := range []float32{infinite, -infinite, noNumber, bitsNumber(0xffc00001)} {
 		wantComplex(t, "UnitAt no finite angle", impl.UnitAt(turns), 0, complex(noNumber, noNumber), 0)
 	}
-	if got := impl.UnitAt(minus0); got != 1 {
-		t.Errorf("UnitAt -0: got %v", got)
+	wantComplex(t, "UnitAt 0", impl.UnitAt(0), 0, complex(1, 0), 0)
+	// The integer that is nearest to -0 is 0, and -0 less 0 is -0.
+	wantComplex(t, "UnitAt -0", impl.UnitAt(minus0), 0, complex(1, minus0), 0)
+	for _, turns := range []float32{0, minus0, smallest, -smallest, 0.3, -0.3, 0.5, -0.5, 1, -1, 2, -2, 1 << 24, -1 << 24, greatest, -greatest} {
+		wantComplex(t, "UnitAt", impl.UnitAt(turns), 0, unitModel(turns), 0)
 	}
 	g := chance(302)
 	for range 3000 {

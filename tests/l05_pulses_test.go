@@ -184,6 +184,21 @@ func TestPulsesOf(t *testing.T) {
 	}
 }
 
+// The imaginary part of a pulse at the angle -0 is -0, but a sum of -0 and 0 is the angle 0.
+func TestPulsesOfSigns(t *testing.T) {
+	up, down := complex(float32(2), 0), complex(2, minus0)
+	for _, x := range []struct {
+		first, turns float32
+		want         []complex64
+	}{
+		{minus0, minus0, []complex64{down}}, {minus0, minus0, []complex64{down, down, down}}, {0, 0, []complex64{up, up}},
+		{0, minus0, []complex64{up, up}}, {minus0, 0, []complex64{up, up}}, {minus0, -1, []complex64{down, up, up}}, {-1, 1, []complex64{up, up, up}},
+	} {
+		list, code := impl.PulsesOf(2, x.first, x.turns, int64(len(x.want)))
+		wantPulses(t, "PulsesOf", list, code, x.want, impl.OK)
+	}
+}
+
 func TestPulsesOfErrors(t *testing.T) {
 	want := func(strength, first, turns float32, count, wantCode int64) {
 		t.Helper()
