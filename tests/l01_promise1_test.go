@@ -66,6 +66,8 @@ func finiteResult(x any) bool {
 		return !slices.ContainsFunc(y, func(number float32) bool { return !finiteResult(number) })
 	case []impl.EchoCell:
 		return impl.ValidEchoMap(y)
+	case impl.Column:
+		return impl.ValidColumn(y)
 	case [20]float32:
 		for _, number := range y {
 			if !finiteResult(number) {
